@@ -225,20 +225,9 @@ func townState(ids string) []impl.Entry {
 	return stateWith(townRoom(), append(idList("$c $a $p $j $b $d"), idList(ids)...)...)
 }
 
-// statesAfter are the states after each event of a valid room, each made of those of its Prev.
+// statesAfter are the states after each event of a valid room.
 func statesAfter(r impl.Room) [][]impl.Entry {
-	var after [][]impl.Entry
-	for _, e := range r.Events {
-		var before [][]impl.Entry
-		for _, id := range e.Prev {
-			before = append(before, after[slices.Index(idsOf(r), id)])
-		}
-		s, _ := wantedResolve(r, before)
-		if e.IsState && wantedVerdict(r, s, e) == 0 {
-			s = withChange(s, entryFor(e))
-		}
-		after = append(after, s)
-	}
+	_, after := statesAround(r)
 	return after
 }
 
